@@ -1,0 +1,48 @@
+"""The interface's opening paragraph and point 3: what has to exist, where, and what it may not use."""
+
+import importlib
+import inspect
+import unittest
+
+FUNCTIONS = {
+}
+
+CLASSES = {
+    "topiary.bits": {"Bits": {"at": ["place"], "rank": ["i", "digit"], "select": ["k", "digit"], "row": []}},
+    "topiary.wave": {
+        "Wave": {
+            "at": ["place"], "row": [], "rank": ["symbol", "i"], "select": ["symbol", "k"],
+            "following": ["symbol", "i"], "present": ["first", "behind"],
+        },
+    },
+}
+
+STARTS = {"Bits": ["row"], "Wave": ["row", "size"]}
+
+
+class InterfaceTest(unittest.TestCase):
+    def test_functions_are_defined_in_their_files(self):
+        for name, functions in FUNCTIONS.items():
+            module = importlib.import_module(name)
+            for function, arguments in functions.items():
+                with self.subTest(function):
+                    found = getattr(module, function)
+                    self.assertEqual(found.__module__, name)
+                    self.assertEqual(list(inspect.signature(found).parameters), arguments)
+
+    def test_classes_are_defined_in_their_files_with_their_methods(self):
+        for name, classes in CLASSES.items():
+            module = importlib.import_module(name)
+            for kind, methods in classes.items():
+                found = getattr(module, kind)
+                self.assertEqual(found.__module__, name)
+                self.assertEqual(list(inspect.signature(found).parameters), STARTS[kind])
+                for method, arguments in methods.items():
+                    with self.subTest(kind=kind, method=method):
+                        self.assertIn(method, vars(found))
+                        parameters = list(inspect.signature(vars(found)[method]).parameters)
+                        self.assertEqual(parameters, ["self"] + arguments)
+
+
+if __name__ == "__main__":
+    unittest.main()

@@ -1,0 +1,1 @@
+"""Topiary: trees of named nodes and texts, kept as rows of bits."""
