@@ -5,6 +5,14 @@ import inspect
 import unittest
 
 FUNCTIONS = {
+    "topiary.orders": {"order": ["row"], "steps": ["row", "places"], "common": ["row", "first", "second"]},
+    "topiary.turned": {"turn": ["row"], "next_place": ["items", "place"], "fault": ["items"], "recover": ["items"]},
+    "topiary.finder": {"row_of_texts": ["texts"]},
+    "topiary.plain": {
+        "is_name": ["word"], "is_text": ["string"], "is_document": ["tree"], "nodes_of": ["tree"],
+        "same_tree": ["tree", "other"], "node_at": ["tree", "node"], "parent_of": ["tree", "node"],
+        "children_of": ["tree", "node"], "depth_of": ["tree", "node"], "upward_path": ["tree", "node"],
+    },
 }
 
 CLASSES = {
@@ -15,9 +23,15 @@ CLASSES = {
             "following": ["symbol", "i"], "present": ["first", "behind"],
         },
     },
+    "topiary.finder": {
+        "Finder": {
+            "times": ["string"], "where": ["string"], "holds": ["number", "string"], "text": ["number"],
+            "part": ["number", "start", "end"], "length": ["number"], "turned": [],
+        },
+    },
 }
 
-STARTS = {"Bits": ["row"], "Wave": ["row", "size"]}
+STARTS = {"Bits": ["row"], "Wave": ["row", "size"], "Finder": ["texts", "step"]}
 
 
 class InterfaceTest(unittest.TestCase):
