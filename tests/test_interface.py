@@ -13,6 +13,10 @@ FUNCTIONS = {
         "same_tree": ["tree", "other"], "node_at": ["tree", "node"], "parent_of": ["tree", "node"],
         "children_of": ["tree", "node"], "depth_of": ["tree", "node"], "upward_path": ["tree", "node"],
     },
+    "topiary.reader": {"read_document": ["text"]},
+    "topiary.writer": {"write_document": ["tree"]},
+    "topiary.rows": {"same_rows": ["rows", "other"], "rows_of": ["tree"], "tree_of": ["rows"]},
+    "topiary.judge": {"judge_rows": ["rows"]},
 }
 
 CLASSES = {
@@ -29,9 +33,13 @@ CLASSES = {
             "part": ["number", "start", "end"], "length": ["number"], "turned": [],
         },
     },
+    "topiary.rows": {"Rows": {}},
 }
 
-STARTS = {"Bits": ["row"], "Wave": ["row", "size"], "Finder": ["texts", "step"]}
+STARTS = {
+    "Bits": ["row"], "Wave": ["row", "size"], "Finder": ["texts", "step"],
+    "Rows": ["names", "labels", "lasts", "fulls", "texts"],
+}
 
 
 class InterfaceTest(unittest.TestCase):

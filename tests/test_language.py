@@ -177,8 +177,10 @@ class LanguageTest(unittest.TestCase):
                 self.assertNotIn(name, BARRED_NAMES)
                 self.assertTrue(not name.startswith("__") or name in ALLOWED_SPECIAL, name)
                 self.assertIsNone(BARRED_WORDS.fullmatch(name))
-            for name in imported:
+            for name in imported | {node.name for node in tree.body if isinstance(node, ast.ClassDef)}:
                 self.assertEqual(names.count(name), 1, name)
+        for node in self.each_node(ast.ClassDef):
+            self.assertRegex(node.name, "^[A-Z]")
 
     def test_builtins(self):
         for node in self.each_node(ast.Name):

@@ -1,7 +1,6 @@
 """Points 16, 17 and 20, and the interface's heading topiary/plain.py."""
 
 import copy
-import random
 import string
 import unittest
 
@@ -9,69 +8,7 @@ from topiary.errors import InvalidPlace
 from topiary.plain import (
     children_of, depth_of, is_document, is_name, is_text, node_at, nodes_of, parent_of, same_tree, upward_path,
 )
-
-EXAMPLE = ("a", [("b", ["1 < 2"]), "x", ("a", [])])
-
-
-def chain(depth, last=None):
-    """A tree of this depth with one node at each depth."""
-    tree = ("z", []) if last is None else last
-    for _ in range(depth - 1):
-        tree = ("a", [tree])
-    return tree
-
-
-def wide(many):
-    """A tree of so many nodes, texts and elements among them, that is two deep."""
-    return ("r", [("b", []) if k & 1 else "t" for k in range(many - 1)])
-
-
-def bushy(many):
-    """A tree of so many nodes that is a few nodes deep and wide."""
-    dice = random.Random(many)
-    root = ("m", [])
-    inner = [(root, 1)]
-    for _ in range(many - 1):
-        (name, children), depth = dice.choice(inner[-40:])
-        if dice.randrange(3) == 0 and not (children and isinstance(children[-1], str)):
-            children.append("text " + name)
-        else:
-            child = (dice.choice(["a", "b", "cd", "zzzzzzzzzzzz"]), [])
-            children.append(child)
-            if depth < 59:
-                inner.append((child, depth + 1))
-    return root
-
-
-def some_documents():
-    return [
-        ("a", []), ("a", ["x"]), EXAMPLE,
-        ("a", [("b", ["x"]), "y", ("b", []), ("a", ["z"])]),
-        ("b", [("a", [("c", [("a", ["t"])])]), ("c", [])]),
-        ("a", ["x", ("a", ["x"]), "x", ("a", ["x"])]),
-        chain(60), chain(60, "end"), wide(30), bushy(80),
-    ]
-
-
-def laid_out(tree, parent=None, depth=1, found=None):
-    """The list of (node, parent's number, depth) in the order of the numbers, by recursion."""
-    found = [] if found is None else found
-    number = len(found)
-    found.append((tree, parent, depth))
-    if not isinstance(tree, str):
-        for child in tree[1]:
-            laid_out(child, number, depth + 1, found)
-    return found
-
-
-def path_by_the_words(tree, node):
-    rows = laid_out(tree)
-    names = sorted({item[0][0] for item in rows if not isinstance(item[0], str)})
-    path = []
-    while rows[node][1] is not None:
-        node = rows[node][1]
-        path.append(1 + names.index(rows[node][0][0]))
-    return path
+from trees import EXAMPLE, bushy, chain, laid_out, path_by_the_words, some_documents, wide
 
 
 class WordsTest(unittest.TestCase):

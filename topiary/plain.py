@@ -1,7 +1,7 @@
 """Trees as plain tuples, lists and strings: names, texts, nodes (points 16, 17 and 20)."""
 
 from topiary.errors import InvalidPlace
-from topiary.signs import has_only_signs
+from topiary.signs import has_only_signs, is_letter
 
 NAME_LETTERS = 12
 TEXT_CHARACTERS = 200
@@ -11,7 +11,7 @@ MOST_DEPTH = 60
 
 def is_name(word):
     """Return True if the word is a name."""
-    return 1 <= len(word) <= NAME_LETTERS and all("a" <= letter <= "z" for letter in word)
+    return 1 <= len(word) <= NAME_LETTERS and all(is_letter(letter) for letter in word)
 
 
 def is_text(string):
@@ -68,7 +68,7 @@ def _copied(tree):
     return copied[0]
 
 
-def _laid_out(tree):
+def laid_out(tree):
     """Return the list of the nodes, which are not copied, and that of their parents' numbers."""
     nodes = []
     parents = []
@@ -84,7 +84,7 @@ def _laid_out(tree):
 
 def _found_in(tree, node):
     """Return what the tree is laid out to, if it has a node with this number."""
-    nodes, parents = _laid_out(tree)
+    nodes, parents = laid_out(tree)
     if not 0 <= node < len(nodes):
         raise InvalidPlace(node)
     return nodes, parents
@@ -102,7 +102,7 @@ def _above(parents, node):
 
 def nodes_of(tree):
     """Return the list of the nodes in the order of their numbers."""
-    nodes, _ = _laid_out(_copied(tree))
+    nodes, _ = laid_out(_copied(tree))
     return nodes
 
 
@@ -145,7 +145,7 @@ def depth_of(tree, node):
     return 1 + len(_above(parents, node))
 
 
-def _labels(nodes):
+def labels_of(nodes):
     """Return the label of each name of the elements among the nodes."""
     names = sorted({node[0] for node in nodes if not isinstance(node, str)})
     return {name: label for label, name in enumerate(names, start=1)}
@@ -154,5 +154,5 @@ def _labels(nodes):
 def upward_path(tree, node):
     """Return the labels of the nodes above, from the parent to the root."""
     nodes, parents = _found_in(tree, node)
-    labels = _labels(nodes)
+    labels = labels_of(nodes)
     return [labels[nodes[number][0]] for number in _above(parents, node)]

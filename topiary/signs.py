@@ -9,3 +9,8 @@ def is_sign(character):
 def has_only_signs(string):
     """Return True if each character of the string may stand in a text."""
     return all(is_sign(character) for character in string)
+
+
+def is_letter(character):
+    """Return True for each small letter."""
+    return "a" <= character <= "z"
