@@ -17,6 +17,14 @@ FUNCTIONS = {
     "topiary.writer": {"write_document": ["tree"]},
     "topiary.rows": {"same_rows": ["rows", "other"], "rows_of": ["tree"], "tree_of": ["rows"]},
     "topiary.judge": {"judge_rows": ["rows"]},
+    "topiary.moves": {
+        "name": ["kept", "row"], "text": ["kept", "row"], "family": ["kept", "row"], "child": ["kept", "row", "k"],
+        "parent": ["kept", "row"], "place": ["kept", "row"], "depth": ["kept", "row"], "weight": ["kept", "row"],
+        "node_of": ["kept", "row"], "row_of": ["kept", "node"], "subtree": ["kept", "row"],
+    },
+    "topiary.paths": {"rows_under": ["kept", "names"], "rows_at": ["kept", "names"], "upward": ["kept", "row"]},
+    "topiary.questions": {"is_proper": ["question"], "write_question": ["question"], "read_question": ["text"]},
+    "topiary.meaning": {"nodes": ["tree", "question"], "found_from": ["tree", "node", "question"]},
 }
 
 CLASSES = {
@@ -34,11 +42,12 @@ CLASSES = {
         },
     },
     "topiary.rows": {"Rows": {}},
+    "topiary.moves": {"Kept": {"rows": []}},
 }
 
 STARTS = {
     "Bits": ["row"], "Wave": ["row", "size"], "Finder": ["texts", "step"],
-    "Rows": ["names", "labels", "lasts", "fulls", "texts"],
+    "Rows": ["names", "labels", "lasts", "fulls", "texts"], "Kept": ["rows"],
 }
 
 

@@ -13,7 +13,7 @@ def _places_by_symbol(row):
     return places
 
 
-def _count_below(places, limit):
+def count_below(places, limit):
     """Return how many items of an ascending list are less than the limit."""
     low = 0
     high = len(places)
@@ -55,7 +55,7 @@ class Wave:
         places = self._places_of(symbol)
         if not 0 <= i <= self.length:
             raise InvalidPlace(i)
-        return _count_below(places, i)
+        return count_below(places, i)
 
     def select(self, symbol, k):
         """Return the k-th place of the symbol, k from 0, or None if there is none."""
