@@ -51,6 +51,7 @@ class PathsTest(unittest.TestCase):
         for tree in documents() + [wide(5000)]:
             kept = Kept(rows_of(tree))
             self.assertEqual(rows_under(kept, []), (0, kept.size))
+            self.assertEqual(rows_at(kept, []), [])
 
     def test_names_above_nodes_in_part_and_in_whole(self):
         for tree in documents():

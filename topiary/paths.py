@@ -16,7 +16,9 @@ def rows_under(kept, names):
 
 
 def rows_at(kept, names):
-    """Return the ascending list of the rows at the names."""
+    """Return the ascending list of the rows at the names, of which there is at least one."""
+    if not names:
+        return []
     # From the root alone, not from all rows, each name leads just one step down.
     first, behind = _stretch_under(kept, 0, 1, names[:-1])
     return kept.rows_named(first, behind, names[-1])
