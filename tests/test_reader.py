@@ -180,6 +180,18 @@ class ReasonsTest(ReaderTest):
         self.check_error("<a><b/></b>", 1, 10, "end")
         for sign in " 1/\t\x7f":
             self.check_error("<a></b" + sign, 1, 6, "end")
+            self.check_error("<ab></a" + sign, 1, 7, "end")
+
+    def test_end_where_the_text_ends(self):
+        for name in ("zz", "b", "ba", "ab", "aa", NAMES_OF_12[0]):
+            self.check_error("<a></" + name, 1, 6, "end")
+            self.check_error("<a>x\n<a></a></" + name, 2, 10, "end")
+        self.check_error("<abcdefghijkl><abcdefghijkl></zz", 1, 31, "end")
+        self.check_error("<abc></abd", 1, 8, "end")
+        self.check_error("<abc></bc", 1, 8, "end")
+        # What the name that is due begins with may still become it.
+        for many in range(4):
+            self.check_error("<abc></" + "abc"[:many], 1, 8 + many, "open")
 
     def test_sign(self):
         self.check_error("<a>></a>", 1, 4, "sign")

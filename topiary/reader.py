@@ -69,8 +69,10 @@ class Reading:
         """Read `</NAME>`."""
         start = self.reached + 2
         name = self.read_name(start)
-        # A name at the end of the text may go on, so that it has not been read yet.
-        if self.reached < len(self.source) and name != self.stack[-1][0]:
+        due = self.stack[-1][0]
+        # Where the text ends within the name that is due, all that stands there is right so far.
+        is_cut = self.reached == len(self.source) and due.startswith(name)
+        if name != due and not is_cut:
             _refuse(self.source, start, "end")
         self.read_tag_end()
         self.stack.pop()
