@@ -246,15 +246,16 @@ class ReadingTest(unittest.TestCase):
         for sign in "abNrt0'/ ]u":
             self.check('/a["\\' + sign + '"]', 6, "sign")
             self.check('/a["\\\\\\' + sign + '"]', 8, "sign")
-        self.check('/a["\\', 6, "sign")
-        self.check('/a["x\\', 7, "sign")
         self.check('/a["' + "x" * 50 + '\t"]', 55, "sign")
-        self.check('/a["' + "x" * 50 + "\\", 56, "sign")
+        self.check('/a["' + "x" * 50 + '\\x"]', 56, "sign")
 
     def test_string(self):
         for text in ('"', '"x', '"x]', '"\\"', '"\\"]', '""', '""]', '"' + "x" * 41 + '"]', '"' + "x" * 41):
             self.check("/a[" + text, 4, "string")
             self.check("//a[/b[" + text, 8, "string")
+        for text in ("\\", "x\\", "\\\\\\", '\\"\\', "x" * 39 + "\\", "x" * 50 + "\\"):
+            self.check('/a["' + text, 4, "string")
+            self.check('/a/e["x"]/a["' + text, 13, "string")
         self.check('/a["' + '\\"' * 41 + '"]', 4, "string")
         self.check('/a["' + "\\n" * 100 + '"]', 4, "string")
         self.assertEqual(read_question('/a["' + "\\n" * 40 + '"]'), with_filter(("holds", "\n" * 40)))

@@ -168,6 +168,9 @@ class QuestionReading:
         """Read a sign of a string, written with a backslash or without one."""
         if self.begins("\\"):
             self.reached += 1
+            # Behind the last sign of the text stands none that is wrong: the string does not end.
+            if self.reached == len(self.source):
+                return ""
             sign = ESCAPED.get(self.sign())
         else:
             sign = self.sign() if " " <= self.sign() <= "~" else None
