@@ -25,6 +25,13 @@ FUNCTIONS = {
     "topiary.paths": {"rows_under": ["kept", "names"], "rows_at": ["kept", "names"], "upward": ["kept", "row"]},
     "topiary.questions": {"is_proper": ["question"], "write_question": ["question"], "read_question": ["text"]},
     "topiary.meaning": {"nodes": ["tree", "question"], "found_from": ["tree", "node", "question"]},
+    "topiary.evaluate": {"nodes_kept": ["kept", "question"]},
+    "topiary.alike": {
+        "members": ["first", "second"], "takes": ["question", "chain"],
+        "places_after": ["question", "places", "member"], "accepts_paper": ["first", "second", "paper", "within"],
+        "compare": ["first", "second"], "compare_within": ["first", "second"],
+    },
+    "topiary.edits": {"edited": ["tree", "edit"], "taken_back": ["tree", "edit"]},
 }
 
 CLASSES = {
@@ -43,11 +50,17 @@ CLASSES = {
     },
     "topiary.rows": {"Rows": {}},
     "topiary.moves": {"Kept": {"rows": []}},
+    "topiary.layers": {
+        "Layers": {
+            "lay": ["edit"], "lift": [], "edits": [], "shown": [], "rows": [], "find": ["question"], "merge": [], "below": [],
+        },
+    },
 }
 
 STARTS = {
     "Bits": ["row"], "Wave": ["row", "size"], "Finder": ["texts", "step"],
     "Rows": ["names", "labels", "lasts", "fulls", "texts"], "Kept": ["rows"],
+    "Layers": ["tree"],
 }
 
 

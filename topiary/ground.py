@@ -1,6 +1,7 @@
 """What questions find among nodes that are told by numbers (points 30 and 31)."""
 
 from topiary.bits import Bits
+from topiary.plain import laid_out
 
 
 def _children_lists(parents, outside):
@@ -21,40 +22,60 @@ def _spans(parents, outside):
 
 
 class Ground:
-    """Nodes by their numbers, and the outside, which has the number behind theirs.
+    """The nodes of a tree by their numbers, and the outside, which has the number behind theirs.
 
-    For each node there are its name (None for a text), its text (None for an element) and the
-    number of its parent (None for the root). The outside and the nodes are the contexts.
+    The outside and the nodes are the contexts. Another class with these methods and this attribute
+    may stand in its place: topiary.shown has one for documents that are not laid out.
     """
 
-    def __init__(self, names, texts, parents):
-        self.names = list(names)
-        self.texts = list(texts)
+    def __init__(self, tree):
+        self._trees, parents = laid_out(tree)
         self.outside = len(parents)
-        self.children = _children_lists(parents, self.outside)
-        self.spans = _spans(parents, self.outside)
+        self._children = _children_lists(parents, self.outside)
+        self._spans = _spans(parents, self.outside)
+
+    def name_at(self, number):
+        """Return the name of an element, or None for a text."""
+        tree = self._trees[number]
+        return None if isinstance(tree, str) else tree[0]
+
+    def text_at(self, number):
+        """Return the text, or None for an element."""
+        tree = self._trees[number]
+        return tree if isinstance(tree, str) else None
+
+    def children_at(self, context):
+        """Return the ascending list of the children of a context."""
+        return list(self._children[context])
+
+    def span_at(self, context):
+        """Return the stretch of the nodes beneath a context."""
+        return self._spans[context]
 
 
 def _passing(ground, test):
     """Return, for each node, whether it passes the test."""
+    names = [ground.name_at(number) for number in range(ground.outside)]
     if test == "#":
-        return [name is None for name in ground.names]
+        return [name is None for name in names]
     if test == "*":
-        return [name is not None for name in ground.names]
-    return [name == test for name in ground.names]
+        return [name is not None for name in names]
+    return [name == test for name in names]
 
 
 def _over(ground, flags):
     """Return, for each context, whether a node with a flag is beneath it."""
     counts = Bits([1 if flag else 0 for flag in flags])
-    return [counts.rank(first) < counts.rank(behind) for first, behind in ground.spans]
+    spans = [ground.span_at(context) for context in range(ground.outside + 1)]
+    return [counts.rank(first) < counts.rank(behind) for first, behind in spans]
 
 
 def _holding(ground, string):
     """Return, for each context, whether it is, or has beneath it, a text that contains the string."""
-    texts = [text is not None and string in text for text in ground.texts]
+    texts = [ground.text_at(number) for number in range(ground.outside)]
+    flags = [text is not None and string in text for text in texts]
     # Nothing is beneath a text, and the outside is not asked.
-    return [flag or over for flag, over in zip([*texts, False], _over(ground, texts))]
+    return [flag or over for flag, over in zip([*flags, False], _over(ground, flags))]
 
 
 def _left_by(numbers, filters):
@@ -89,7 +110,8 @@ def _leading(ground, step, goals):
     """Return, for each context, whether the step finds one of the goals from it."""
     axis, filters = _told_step(ground, step)
     if axis == "child":
-        left = [_left_by(children, filters) for children in ground.children]
+        contexts = range(ground.outside + 1)
+        left = [_left_by(ground.children_at(context), filters) for context in contexts]
         return [any([goals[at] for at in numbers]) for numbers in left]
     flags = [False] * ground.outside
     for number in _left_by(list(range(ground.outside)), filters):
@@ -110,7 +132,7 @@ def _beneath(ground, contexts):
     numbers = []
     reached = 0
     for context in contexts:
-        first, behind = ground.spans[context]
+        first, behind = ground.span_at(context)
         numbers.extend(list(range(max(first, reached), behind)))
         reached = max(reached, behind)
     return numbers
@@ -126,6 +148,6 @@ def found_in(ground, context, question):
         else:
             found = []
             for number in contexts:
-                found.extend(_left_by(ground.children[number], filters))
+                found.extend(_left_by(ground.children_at(number), filters))
             contexts = sorted(found)
     return contexts

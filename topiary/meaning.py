@@ -2,23 +2,14 @@
 
 from topiary.errors import ImproperQuestion, InvalidPlace
 from topiary.ground import Ground, found_in
-from topiary.plain import laid_out
 from topiary.questions import is_proper
-
-
-def _ground_of(tree):
-    """Return the nodes of a document as ground for questions."""
-    trees, parents = laid_out(tree)
-    names = [None if isinstance(node, str) else node[0] for node in trees]
-    texts = [node if isinstance(node, str) else None for node in trees]
-    return Ground(names, texts, parents)
 
 
 def nodes(tree, question):
     """Return the ascending list of the nodes of the question in the document."""
     if not is_proper(question):
         raise ImproperQuestion()
-    ground = _ground_of(tree)
+    ground = Ground(tree)
     return found_in(ground, ground.outside, question)
 
 
@@ -26,7 +17,7 @@ def found_from(tree, node, question):
     """Return the ascending list of the nodes that the question finds from a node."""
     if not is_proper(question):
         raise ImproperQuestion()
-    ground = _ground_of(tree)
+    ground = Ground(tree)
     if not 0 <= node < ground.outside:
         raise InvalidPlace(node)
     return found_in(ground, node, question)

@@ -100,6 +100,21 @@ def _above(parents, node):
     return numbers
 
 
+def is_tree(tree):
+    """Return True if the tree is one, of any size and depth."""
+    nodes, _ = laid_out(tree)
+    return all(_is_well_made(node) for node in nodes)
+
+
+def size_and_depth(tree):
+    """Return the number of the nodes of a tree, and its depth."""
+    _, parents = laid_out(tree)
+    depths = [1]
+    for parent in parents[1:]:
+        depths.append(depths[parent] + 1)
+    return len(depths), max(depths)
+
+
 def nodes_of(tree):
     """Return the list of the nodes in the order of their numbers."""
     nodes, _ = laid_out(_copied(tree))
