@@ -32,6 +32,15 @@ FUNCTIONS = {
         "compare": ["first", "second"], "compare_within": ["first", "second"],
     },
     "topiary.edits": {"edited": ["tree", "edit"], "taken_back": ["tree", "edit"]},
+    "topiary.codes": {
+        "lengths_of": ["counts"], "code_of": ["lengths"], "is_full": ["lengths"], "steps_of": ["number"],
+    },
+    "topiary.box": {"stream_of": ["rows"], "bits_told": ["rows"], "pack": ["rows"], "unpack": ["numbers"]},
+    "topiary.report": {
+        "pieces_of": ["text", "size"], "show_lines": ["tree"], "rows_lines": ["rows"], "box_lines": ["rows"],
+        "node_line": ["tree", "node"], "quoted": ["text"],
+    },
+    "topiary.desk": {"answers_of": ["lines"]},
 }
 
 CLASSES = {
@@ -55,12 +64,13 @@ CLASSES = {
             "lay": ["edit"], "lift": [], "edits": [], "shown": [], "rows": [], "find": ["question"], "merge": [], "below": [],
         },
     },
+    "topiary.desk": {"Desk": {"obey": ["line"], "lines": [], "shown": []}},
 }
 
 STARTS = {
     "Bits": ["row"], "Wave": ["row", "size"], "Finder": ["texts", "step"],
     "Rows": ["names", "labels", "lasts", "fulls", "texts"], "Kept": ["rows"],
-    "Layers": ["tree"],
+    "Layers": ["tree"], "Desk": [],
 }
 
 

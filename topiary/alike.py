@@ -2,8 +2,8 @@
 
 from topiary.errors import FilteredQuestion
 from topiary.questions import is_proper
+from topiary.signs import LETTERS
 
-LETTERS = "abcdefghijklmnopqrstuvwxyz"
 # The places [0] and [0], behind no member at all.
 START = (1, 1)
 

@@ -1,5 +1,7 @@
 """The signs that may stand in texts and strings (points 14 and 16)."""
 
+LETTERS = "abcdefghijklmnopqrstuvwxyz"
+
 
 def is_sign(character):
     """Return True for the newline and for each character from the space to `~`."""
