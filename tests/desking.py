@@ -1,4 +1,4 @@
-"""A plain desk for the tests of desks: it keeps the draft, the loaded document and the edits, and makes all else anew."""
+"""A plain desk for tests: it keeps the draft, the loaded document and the edits, and makes all else anew."""
 
 import re
 
@@ -187,7 +187,8 @@ QUESTIONS = [
     "//*/*", '//b["a b"]', '/a["x', "//A", "/a[0]", "/a b", '//#["\\n"]', '//#["\\""]', "/a" * 13, "/a[1] ",
 ]
 TREES = [
-    "v", "x y", "", " ", "<c/>", "<c><d>x</d>y</c>", "<c>", "<c></d>", "<c>&n;</c>", "a<b", "<c/> ", "<a>1 &lt; 2<b/></a>", "<",
+    "v", "x y", "", " ", "<c/>", "<c><d>x</d>y</c>", "<c>", "<c></d>", "<c>&n;</c>", "a<b", "<c/> ",
+    "<a>1 &lt; 2<b/></a>", "<",
 ]
 DOCUMENTS = [
     "<a><b>one</b>x<b/><c>a b</c></a>", "<a/>", "<a>1 &lt; 2<b><c/>x</b></a>", "<a><b></a>", "<a>", "a", "",
@@ -204,11 +205,14 @@ def drawn_line(dice):
     number = dice.choice([str(dice.randrange(8))] * 8 + ["60", "00", "01", "", "-1", "+1", "99999", "123456", "x"])
     place = dice.choice(["0", "1", "2", "0", "1", "7", "01"])
     rest = {
-        "text": [*DOCUMENTS, "<a>", "</a>", "x", " ", "", "0a", "f"], "find": QUESTIONS, "where": ["", "x", "a b", " ", "o", "<"],
+        "text": [*DOCUMENTS, "<a>", "</a>", "x", " ", "", "0a", "f"], "find": QUESTIONS,
+        "where": ["", "x", "a b", " ", "o", "<"],
         "alike": [dice.choice(QUESTIONS) + dice.choice([" ", " ", " ", "  ", ""]) + dice.choice(QUESTIONS)],
         "rename": ["a", "b", "c", "dd", "A", "", "a b"], "retext": ["t", "u v", "", " ", "<&>"], "graft": TREES,
     }.get(word)
-    words = {"node": [number], "cut": [number], "rename": [number], "retext": [number], "graft": [number, place]}.get(word, [])
+    words = {"node": [number], "cut": [number], "rename": [number], "retext": [number],
+        "graft": [number, place]}.get(word, [])
     line = " ".join([word, *words, *([dice.choice(rest)] if rest else [])])
     changed = dice.randrange(40)
-    return {0: line + " ", 1: " " + line, 2: line.partition(" ")[0], 3: line.upper(), 4: line + " x", 5: ""}.get(changed, line)
+    return {0: line + " ", 1: " " + line, 2: line.partition(" ")[0], 3: line.upper(), 4: line + " x",
+        5: ""}.get(changed, line)

@@ -13,7 +13,8 @@ from topiary.questions import read_question
 from trees import laid_out, small_trees, some_documents
 
 TEXTS = [
-    "/a", "//a", "/*", "//*", "/#", "//#", "/a/b", "/a//b", "//a/b", "//a//b", "//a/*", "//*/a", "//*//*", "/*/*", "/a/#",
+    "/a", "//a", "/*", "//*", "/#", "//#", "/a/b", "/a//b", "//a/b", "//a//b", "//a/*", "//*/a", "//*//*", "/*/*",
+    "/a/#",
     "//a//#", "//*/#", "/*//#", "//#/a", "//#//*", "/a/a/a", "//a//a", "//a/*/b", "//*//a//*", "/zz", "//b//*/#",
 ]
 QUESTIONS = [read_question(text) for text in TEXTS]
@@ -299,7 +300,8 @@ class CompareTest(unittest.TestCase):
         self.assertEqual(compare_within(one, two)[0], "within")
         self.assertEqual(compare(one, two), ("apart", ["b"] + ["a"] * 11))
         self.assertEqual(compare(read_question("/a" * 12), read_question("/a" * 11)), ("apart", ["a"] * 11))
-        self.assertEqual(compare(read_question("/a" * 12), read_question("/a" * 11 + "/#")), ("apart", ["a"] * 11 + ["#"]))
+        self.assertEqual(compare(read_question("/a" * 12), read_question("/a" * 11 + "/#")),
+            ("apart", ["a"] * 11 + ["#"]))
 
     def test_what_is_returned_is_new(self):
         one = read_question("//a")

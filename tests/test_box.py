@@ -1,7 +1,9 @@
 """Points 49 and 50, and the interface's heading topiary/box.py."""
 
 import copy
+import itertools
 import random
+import string
 import unittest
 from unittest import mock
 
@@ -94,10 +96,15 @@ def tree_of_lengths(lengths):
     return ("t", [child for length in lengths for child in ("x" * length, ("e", []))])
 
 
+def many_names(many):
+    return ["".join(letters) for letters in itertools.islice(itertools.product(string.ascii_lowercase, repeat=3), many)]
+
+
 def documents():
     dice = random.Random(49)
     return [
-        *some_documents(), ("z", []), ("zzzzzzzzzzzz", []), ("a", ["x"]), ("a", ["\n"]), ("a", ["~" * 200]), ("a", [SIGNS]),
+        *some_documents(), ("z", []), ("zzzzzzzzzzzz", []), ("a", ["x"]), ("a", ["\n"]), ("a", ["~" * 200]),
+        ("a", [SIGNS]),
         ("b", [("a", ["x" * 40]), "x"]), ("q", [("q", [("q", [])])]), texts_of(10, 150, dice), texts_of(3, 1, dice),
     ]
 
@@ -156,8 +163,7 @@ class PackedTest(BoxTest):
                 self.check(tree)
 
     def test_large_documents(self):
-        for tree in (bushy(5000), wide(5000), ("r", [(chr(97 + k // 676) + chr(97 + k // 26 % 26) + chr(97 + k % 26), [])
-                                                     for k in range(4999)])):
+        for tree in (bushy(5000), wide(5000), ("r", [(name, []) for name in many_names(4999)])):
             self.check(tree)
 
     def test_zeros_behind(self):
@@ -368,7 +374,7 @@ class RefusedTest(BoxTest):
 
     def test_long_lengths_of_codes(self):
         # Full lengths from 1 to nearly 3000, with names for all of them.
-        names = sorted(chr(97 + k // 676) + chr(97 + k // 26 % 26) + chr(97 + k % 26) for k in range(2999))
+        names = many_names(2999)
         lengths = [*range(1, 3000), 2999]
         rows = Rows(names, [0] * 3000, [1] * 3000, [0] * 3000, [])
         written = Written(rows, label_lengths=lengths, labels=[0] * 3000)

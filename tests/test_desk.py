@@ -73,7 +73,8 @@ class TableTest(DeskTest):
 
     def test_word(self):
         desk = loaded("<a/>")
-        for line in ("", " ", "x", "Text x", "texts", "text<a>", " show", "show\\", "loa", "quit", "DROP", " text x", "0"):
+        for line in ("", " ", "x", "Text x", "texts", "text<a>", " show", "show\\", "loa", "quit", "DROP", " text x",
+                "0"):
             self.check_refused(desk, [(line, "word")])
 
     def test_count(self):
@@ -88,7 +89,8 @@ class TableTest(DeskTest):
 
     def test_none(self):
         lines = [
-            "show", "node 0", "find /a", "where x", "alike /a /a", "rename 0 b", "retext 0 b", "cut 0", "graft 0 0 x", "lift",
+            "show", "node 0", "find /a", "where x", "alike /a /a", "rename 0 b", "retext 0 b", "cut 0", "graft 0 0 x",
+            "lift",
             "merge", "rows", "box", "node x", "find", "graft 00 x <", "cut 123456", "where ", "alike",
         ]
         desk = Desk()
@@ -101,10 +103,12 @@ class TableTest(DeskTest):
 
     def test_number(self):
         desk = loaded("<a><b>x</b></a>")
-        for number in ("", "00", "01", "000", "-1", "+1", "1.", "123456", "000001", "100000", "x", "1x", "0x1", "_1", "1_0"):
+        for number in ("", "00", "01", "000", "-1", "+1", "1.", "123456", "000001", "100000", "x", "1x", "0x1", "_1",
+                "1_0"):
             self.check_refused(desk, [
                 (f"node {number}", "number"), (f"cut {number}", "number"), (f"rename {number} c", "number"),
-                (f"retext {number} c", "number"), (f"graft {number} 0 <c", "number"), (f"graft 0 {number} <c", "number"),
+                (f"retext {number} c", "number"), (f"graft {number} 0 <c", "number"),
+                (f"graft 0 {number} <c", "number"),
             ])
         self.check_refused(desk, [("node 99999", "node"), ("cut 99999", "edit node"), ("cut 0", "edit root")])
         self.check(desk, [("node 0", "a children 1"), ("graft 1 0 <c/>", "edits 1"), ("graft 0 1 v", "edits 2")])
@@ -117,13 +121,15 @@ class TableTest(DeskTest):
             ("graft x 0 <c", "number"), ("graft 9 0 <c", "tree 1 3 open"), ("graft 9 9 ", "edit node"),
             ("graft 1 9 <c>", "tree 1 4 open"), ("graft 1 9 ", "edit kind"), ("graft 0 9 ", "edit place"),
             ("graft 0 0 ", "edit tree"), ("graft 0 0 x", "edit beside"), ("rename 9 A", "edit node"),
-            ("rename 1 A", "edit kind"), ("rename 0 A", "edit name"), ("retext 0 ", "edit kind"), ("retext 1 ", "edit text"),
+            ("rename 1 A", "edit kind"), ("rename 0 A", "edit name"), ("retext 0 ", "edit kind"),
+            ("retext 1 ", "edit text"),
         ])
 
     def test_text_and_drop(self):
         desk = Desk()
         self.check(desk, [
-            ("text a", "lines 1"), ("text ", "lines 2"), ("text", "lines 3"), ("text  b ", "lines 4"), ("drop", "dropped"),
+            ("text a", "lines 1"), ("text ", "lines 2"), ("text", "lines 3"), ("text  b ", "lines 4"),
+            ("drop", "dropped"),
             ("drop", "dropped"), ("text x", "lines 1"),
         ])
         self.assertEqual(desk._work._draft, ["x"])
@@ -140,15 +146,19 @@ class TableTest(DeskTest):
         for line in ("text <a>  x", "text   y  ", "text ", "text </a>"):
             desk.obey(line)
         self.check(desk, [("load", "loaded 2"), ("show", "<a>  x  y  </a>"), ("node 1", 'text under 0 "  x  y  "')])
-        self.check(desk, [("retext 1  z ", "edits 1"), ("show", "<a> z </a>"), ("where z ", "1 1"), ("where  z ", "1 0")])
-        self.check_refused(desk, [("rename 0  b", "edit name"), ("rename 0 b ", "edit name"), ("find  /a", "question 1 step")])
-        self.check(desk, [("graft 0 0 <b/>", "edits 2"), ("graft 0 0  <b/>", "edits 3"), ("show", "<a> &lt;b/&gt;<b/> z </a>")])
+        self.check(desk, [("retext 1  z ", "edits 1"), ("show", "<a> z </a>"), ("where z ", "1 1"),
+            ("where  z ", "1 0")])
+        self.check_refused(desk, [("rename 0  b", "edit name"), ("rename 0 b ", "edit name"),
+            ("find  /a", "question 1 step")])
+        self.check(desk, [("graft 0 0 <b/>", "edits 2"), ("graft 0 0  <b/>", "edits 3"),
+            ("show", "<a> &lt;b/&gt;<b/> z </a>")])
 
     def test_load(self):
         desk = Desk()
         self.check_refused(desk, [("load", "text 1 1 open")])
         for text, reason in (
-            ("<a>", "1 4 open"), ("x", "1 1 element"), ("<a/>x", "1 5 more"), ("<A/>", "1 2 name"), ("<a b/>", "1 3 tag"),
+            ("<a>", "1 4 open"), ("x", "1 1 element"), ("<a/>x", "1 5 more"), ("<A/>", "1 2 name"),
+            ("<a b/>", "1 3 tag"),
             ("<a></b>", "1 6 end"), ("<a>></a>", "1 4 sign"), ("<a></zz", "1 6 end"), ("<a>&n;</a>", "1 4 sign"),
         ):
             desk.obey("text " + text)
@@ -242,7 +252,8 @@ class TableTest(DeskTest):
         desk = unboxed(("a", [("b", ['"\n\\']), "x y", ("c", [])]))
         self.check(desk, [
             ("node 0", "a children 1 3 4"), ("node 1", "b under 0 children 2"), ("node 2", 'text under 1 "\\"\\n\\\\"'),
-            ("node 3", 'text under 0 "x y"'), ("node 4", "c under 0"), ("node 5", "refused node"), ("node 99999", "refused node"),
+            ("node 3", 'text under 0 "x y"'), ("node 4", "c under 0"), ("node 5", "refused node"),
+            ("node 99999", "refused node"),
             ("cut 4", "edits 1"), ("node 4", "refused node"), ("graft 0 0 <d/>", "edits 2"), ("node 1", "d under 0"),
             ("node 0", "a children 1 2 4"),
         ])
@@ -251,26 +262,30 @@ class TableTest(DeskTest):
     def test_find(self):
         desk = unboxed(("a", [("b", ["a b\n"]), "x", ("b", [])]))
         self.check(desk, [
-            ("find /a", "found 1 0"), ("find //*", "found 3 0 1 4"), ("find //#", "found 2 2 3"), ("find //c", "found 0"),
+            ("find /a", "found 1 0"), ("find //*", "found 3 0 1 4"), ("find //#", "found 2 2 3"),
+            ("find //c", "found 0"),
             ('find //#["a b"]', "found 1 2"), ('find //#["b\\n"]', "found 1 2"), ("find //b[/#]", "found 1 1"),
             ("find /a/b[2]", "found 1 4"),
         ])
         self.check_refused(desk, [
             ("find", "question 1 step"), ("find ", "question 1 step"), ("find  /a", "question 1 step"),
             ("find /a ", "question 3 end"), ("find /A", "question 2 test"), ("find /a[0]", "question 4 filter"),
-            ('find /a["x', "question 4 string"), ('find /a["\\', "question 4 string"), ("find /a[1", "question 5 close"),
+            ('find /a["x', "question 4 string"), ('find /a["\\', "question 4 string"),
+            ("find /a[1", "question 5 close"),
             ("find //a[1]", "question 5 number"), ("find " + "/a" * 13, "question 25 steps"),
         ])
 
     def test_where(self):
         desk = unboxed(("a", ["aaa", ("b", ["xaa", ("c", []), 'a "b" \n'])]))
         self.check(desk, [
-            ("where aa", ["1 0", "1 1", "3 1"]), ("where a", ["1 0", "1 1", "1 2", "3 1", "3 2", "5 0"]), ("where y", []),
+            ("where aa", ["1 0", "1 1", "3 1"]), ("where a", ["1 0", "1 1", "1 2", "3 1", "3 2", "5 0"]),
+            ("where y", []),
             ("where  ", ["5 1", "5 5"]), ('where "b"', ["5 2"]), ("where aaax", []), ("where b", ["5 3"]),
         ])
         everywhere = [f"1 {k}" for k in range(4)] + [f"3 {k}" for k in range(4)] + [f"5 {k}" for k in range(8)]
         self.check(desk, [("where ", everywhere), ("where", everywhere)])
-        self.check(desk, [("cut 1", "edits 1"), ("where aa", ["2 1"]), ("lift", "edits 0"), ("retext 1 baa", "edits 1")])
+        self.check(desk, [("cut 1", "edits 1"), ("where aa", ["2 1"]), ("lift", "edits 0"),
+            ("retext 1 baa", "edits 1")])
         self.check(desk, [("where aa", ["1 1", "3 1"])])
         self.check(loaded("<a/>"), [("where ", []), ("where x", [])])
 
@@ -283,29 +298,36 @@ class TableTest(DeskTest):
         self.check_refused(desk, [
             ("alike", "question 1 step"), ("alike ", "question 1 step"), ("alike  ", "question 1 step"),
             ("alike /a", "question 1 step"), ("alike /a ", "question 1 step"), ("alike  /a", "question 1 step"),
-            ("alike /a  /a", "question 1 step"), ("alike /a /a ", "question 3 end"), ("alike /a /a /a", "question 3 end"),
+            ("alike /a  /a", "question 1 step"), ("alike /a /a ", "question 3 end"),
+            ("alike /a /a /a", "question 3 end"),
             ("alike /A /B", "question 2 test"), ("alike //a /B", "question 2 test"), ("alike /a/ /", "question 4 test"),
             ("alike /a[1] /a", "filter"), ("alike /a /a[1]", "filter"), ('alike /a["x y"] /a', "filter"),
             ('alike /a["x y"] /a["y z"]', "filter"), ('alike /a["x y"] /a["y z', "question 4 string"),
             ('alike /a["\\" "] /A', "question 2 test"), ('alike /a["\\\\" /A', "question 8 close"),
-            ('alike /a["\\\\"] /A', "question 2 test"), ('alike /a["x /a', "question 4 string"), ('alike /a["x\\', "question 4 string"),
-            ("alike /a[1] /a[", "question 4 filter"), ('alike /a" "/a /a', "question 3 end"), ("alike \\ /a", "question 1 step"),
-            ('alike /a[" "] ', "question 1 step"), ('alike /a[" "]', "question 1 step"), ('alike /a /a["x"] ', "question 8 end"),
+            ('alike /a["\\\\"] /A', "question 2 test"), ('alike /a["x /a', "question 4 string"),
+            ('alike /a["x\\', "question 4 string"),
+            ("alike /a[1] /a[", "question 4 filter"), ('alike /a" "/a /a', "question 3 end"),
+            ("alike \\ /a", "question 1 step"),
+            ('alike /a[" "] ', "question 1 step"), ('alike /a[" "]', "question 1 step"),
+            ('alike /a /a["x"] ', "question 8 end"),
         ])
 
     def test_edits(self):
         desk = loaded("<a>x<b/>y</a>")
         self.check(desk, [
             ("rename 2 c", "edits 1"), ("retext 1 1 < 2", "edits 2"), ("graft 2 0 <d>&lt;z</d>", "edits 3"),
-            ("graft 2 1 z & z", "edits 4"), ("show", "<a>1 &lt; 2<c><d>&lt;z</d>z &amp; z</c>y</a>"), ("cut 3", "edits 5"),
+            ("graft 2 1 z & z", "edits 4"), ("show", "<a>1 &lt; 2<c><d>&lt;z</d>z &amp; z</c>y</a>"),
+            ("cut 3", "edits 5"),
             ("show", "<a>1 &lt; 2<c>z &amp; z</c>y</a>"), ("cut 2", "refused edit beside"), ("cut 4", "edits 6"),
         ])
         self.check_refused(desk, [
-            ("rename 9 c", "edit node"), ("rename 1 c", "edit kind"), ("rename 0 C", "edit name"), ("rename 0", "edit name"),
+            ("rename 9 c", "edit node"), ("rename 1 c", "edit kind"), ("rename 0 C", "edit name"),
+            ("rename 0", "edit name"),
             ("rename 0 abcdefghijklm", "edit name"), ("retext 0 x", "edit kind"), ("retext 1 ", "edit text"),
             ("retext 1", "edit text"), ("cut 0", "edit root"), ("cut 9", "edit node"), ("graft 0 5 x", "edit place"),
             ("graft 0 0 x", "edit beside"), ("graft 0 0", "edit tree"), ("graft 0 0 <c", "tree 1 3 open"),
-            ("graft 0 0 <c></d>", "tree 1 6 end"), ("graft 0 0 <c/>x", "tree 1 5 more"), ("graft 0 0 <c/> ", "tree 1 5 more"),
+            ("graft 0 0 <c></d>", "tree 1 6 end"), ("graft 0 0 <c/>x", "tree 1 5 more"),
+            ("graft 0 0 <c/> ", "tree 1 5 more"),
             ("graft 0 0 <", "tree 1 2 open"), ("graft 0 0 <c>&n;</c>", "tree 1 4 sign"),
         ])
         self.check(desk, [(("lift", f"edits {many}")) for many in range(5, -1, -1)])
@@ -349,7 +371,8 @@ class LinesTest(DeskTest):
         for desk in (Desk(), loaded("<a>x</a>")):
             before, lines = self.state(desk), desk.lines()
             for line in (
-                "text " + "x" * 196, "x" * 201, "text a\tb", "text a\n", "\n", "show\n", "text \x7f", "text \u00e9", "find //\u20ac",
+                "text " + "x" * 196, "x" * 201, "text a\tb", "text a\n", "\n", "show\n", "text \x7f", "text \u00e9",
+                "find //\u20ac",
                 "\t" * 300, "drop\r",
             ):
                 with self.assertRaises(InvalidLine) as caught:
@@ -431,7 +454,8 @@ class FactsTest(DeskTest):
     def test_find_ahead_of_merge_and_behind_it(self):
         desk = loaded("<a><b>one</b>x<b/><c>two</c></a>")
         edits = ["rename 1 c", "graft 4 0 <b>new</b>", "cut 3", "graft 0 1 y", "retext 2 oo", "graft 1 1 <b/>"]
-        lines = ["find //b", "find //c[/#]", 'find //#["o"]', "find /a/*[2]", "find //*", "show", "where o", "rows", "box"]
+        lines = ["find //b", "find //c[/#]", 'find //#["o"]', "find /a/*[2]", "find //*", "show", "where o", "rows",
+            "box"]
         for edit in edits:
             desk.obey(edit)
             before = [desk.obey(line) for line in lines]

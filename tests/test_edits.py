@@ -126,7 +126,8 @@ class EditsTest(unittest.TestCase):
             self.check_reason(TREE, ("graft", 0, k, ""), "place")
             self.check_reason(TREE, ("graft", 0, k, "x"), "place")
         self.check_reason(TREE, ("graft", 3, 1, "x"), "place")
-        for tree in ("", "x" * 201, "\t", ("", []), ("A", []), ("a", ["x", "y"]), ("a", [("b", ["x", "y"])]), ("a", [""])):
+        for tree in ("", "x" * 201, "\t", ("", []), ("A", []), ("a", ["x", "y"]), ("a", [("b", ["x", "y"])]),
+                ("a", [""])):
             self.check_reason(TREE, ("graft", 0, 0, tree), "tree")
             # Beside a text, too, the tree that is none counts first.
             self.check_reason(TREE, ("graft", 1, 0, tree), "tree")
@@ -170,7 +171,8 @@ class EditsTest(unittest.TestCase):
     def test_what_is_returned_is_new(self):
         grafted = ("g", [("h", [])])
         tree = copy.deepcopy(TREE)
-        for edit in (("graft", 3, 0, grafted), ("graft", 0, 0, grafted), ("rename", 0, "r"), ("rename", 1, "r"), ("cut", 3)):
+        for edit in (("graft", 3, 0, grafted), ("graft", 0, 0, grafted), ("rename", 0, "r"), ("rename", 1, "r"),
+                ("cut", 3)):
             behind = edited(tree, edit)
             for node, _, _ in laid_out(behind):
                 if not isinstance(node, str):

@@ -75,7 +75,8 @@ class EvaluateTest(unittest.TestCase):
 
     def test_some_documents(self):
         texts = [
-            "/*", "//*", "//#", "/a/*", "/a/#", "/a//*", "//a//a", "//*/*[1]", "//*/*[2]", "//*[/#]", "//*[//a]", "//b/#",
+            "/*", "//*", "//#", "/a/*", "/a/#", "/a//*", "//a//a", "//*/*[1]", "//*/*[2]", "//*[/#]", "//*[//a]",
+            "//b/#",
             '//*["x"]', '//#["x"]', '//#[" "]', "//a[/b][/a]", "//*/*[/*[1]]", "/*[1]/*[1]/#[1]", "//*[/*[//*]]",
         ]
         for tree in [*some_documents(), DEEP]:
@@ -99,7 +100,8 @@ class EvaluateTest(unittest.TestCase):
                 self.assertEqual(nodes_kept(kept, question), plain.found(None, question), question)
 
     def test_large_documents(self):
-        texts = ["/*" * 12, "//*" * 12, '//*[//*[//*]]//a[/b[/a]]/*[1][//#["text"]]', "//*/#[1]", "//*[/*[1]/*[2]]/*[1]"]
+        texts = ["/*" * 12, "//*" * 12, '//*[//*[//*]]//a[/b[/a]]/*[1][//#["text"]]', "//*/#[1]",
+            "//*[/*[1]/*[2]]/*[1]"]
         for tree in (bushy(5000), wide(5000), chain(60, "x")):
             self.check_all(tree, texts)
 

@@ -61,7 +61,8 @@ CLASSES = {
     "topiary.moves": {"Kept": {"rows": []}},
     "topiary.layers": {
         "Layers": {
-            "lay": ["edit"], "lift": [], "edits": [], "shown": [], "rows": [], "find": ["question"], "merge": [], "below": [],
+            "lay": ["edit"], "lift": [], "edits": [], "shown": [], "rows": [], "find": ["question"], "merge": [],
+            "below": [],
         },
     },
     "topiary.desk": {"Desk": {"obey": ["line"], "lines": [], "shown": []}},

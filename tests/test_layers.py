@@ -19,7 +19,8 @@ from trees import EXAMPLE, bushy, chain, laid_out, some_documents, wide
 
 TREE = ("a", [("b", ["x"]), ("c", [])])
 NO_DOCUMENTS = [
-    "x", ("A", []), ("", []), ("a", ["x", "y"]), ("a", [""]), ("a", [("b", ["\t"])]), wide(5001), chain(61), ("a", ["x" * 201]),
+    "x", ("A", []), ("", []), ("a", ["x", "y"]), ("a", [""]), ("a", [("b", ["\t"])]), wide(5001), chain(61),
+    ("a", ["x" * 201]),
 ]
 
 

@@ -61,7 +61,8 @@ class LinesTest(unittest.TestCase):
             text = f"<a>{'x' * many}</a>"
             lines = show_lines(("a", ["x" * many]))
             self.assertEqual("".join(lines), text)
-            self.assertEqual([len(line) for line in lines], [100] * (len(text) // 100) + [len(text) % 100] * (len(text) % 100 > 0))
+            self.assertEqual([len(line) for line in lines],
+                [100] * (len(text) // 100) + [len(text) % 100] * (len(text) % 100 > 0))
         # What stands for a newline may be cut.
         self.assertEqual(show_lines(("a", ["x" * 96 + "\n"])), ["<a>" + "x" * 96 + "&", "n;</a>"])
         self.assertEqual(show_lines(("a", ["x" * 95 + "<"])), ["<a>" + "x" * 95 + "&l", "t;</a>"])
