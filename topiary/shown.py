@@ -42,12 +42,12 @@ def _laid(kept, word, parts):
     return Laid(word, parts, 1 + sum([_weight_of(kept, part) for part in parts]))
 
 
-def _laid_tree(tree):
+def _laid_tree(kept, tree):
     """Return the part that a tree is, all of it laid out."""
     if isinstance(tree, str):
         return tree
     word, children = tree
-    return _laid(None, word, [_laid_tree(child) for child in children])
+    return _laid(kept, word, [_laid_tree(kept, child) for child in children])
 
 
 def _laid_element(kept, part):
@@ -106,7 +106,7 @@ def _instead(kept, part, edit):
     element = _laid_element(kept, part)
     if kind == "rename":
         return [Laid(edit[2], element.parts, element.weight)]
-    return [_laid(kept, element.word, _grafted(element.parts, edit[2], _laid_tree(edit[3])))]
+    return [_laid(kept, element.word, _grafted(element.parts, edit[2], _laid_tree(kept, edit[3])))]
 
 
 def _changed(kept, parts, number, edit):
